@@ -1,0 +1,28 @@
+// Package whole computes with whole numbers.
+package whole
+
+import "reelfeeder/api"
+
+// Within says whether a number is from low to high.
+func Within(n, low, high int) bool { return low <= n && n <= high }
+
+// Nearest is the integer nearest to a quotient (half up). The divisor is above 0.
+func Nearest(n, by int) int {
+	down, left := n/by, n%by
+	if left < 0 { // Go rounds towards 0
+		down, left = down-1, left+by
+	}
+	if left >= by-left {
+		return down + 1
+	}
+	return down
+}
+
+// Lowest is a fraction in lowest terms, of a number from 0 on and one above 0.
+func Lowest(num, den int) api.Fraction {
+	common, rest := den, num
+	for rest != 0 {
+		common, rest = rest, common%rest
+	}
+	return api.Fraction{Num: num / common, Den: den / common}
+}
