@@ -26,3 +26,6 @@ func Lowest(num, den int) api.Fraction {
 	}
 	return api.Fraction{Num: num / common, Den: den / common}
 }
+
+// Moment says whether a number is a moment.
+func Moment(n int) bool { return Within(n, 0, api.End-1) }

@@ -35,3 +35,12 @@ func TestLowest(t *testing.T) {
 		}
 	}
 }
+
+// TestMoment holds Z11: what a moment is.
+func TestMoment(t *testing.T) {
+	for n, want := range map[int]bool{-1: false, 0: true, api.End - 1: true, api.End: false, math.MinInt: false, math.MaxInt: false} {
+		if got := whole.Moment(n); got != want {
+			t.Errorf("%d: got %v", n, got)
+		}
+	}
+}
