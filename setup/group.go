@@ -4,6 +4,7 @@ import (
 	"slices"
 
 	"reelfeeder/api"
+	"reelfeeder/whole"
 )
 
 // Groups divides products into as few groups as possible.
@@ -18,7 +19,7 @@ func Groups(slots int, p [][]string) ([][]int, api.Errno) {
 	sets := divided(len(p), func(set int) bool { return many[set] <= slots })
 	var groups [][]int
 	for _, set := range sets {
-		groups = append(groups, members(set))
+		groups = append(groups, whole.Members(set))
 	}
 	return groups, api.OK
 }
@@ -50,17 +51,6 @@ func divided(products int, fits func(set int) bool) []int {
 	}
 	put(0, nil)
 	return fewest
-}
-
-// members are the products of a set, rising.
-func members(set int) []int {
-	var list []int
-	for product := 0; 1<<product <= set; product++ {
-		if set&(1<<product) != 0 {
-			list = append(list, product)
-		}
-	}
-	return list
 }
 
 // Always are the parts that all products need.

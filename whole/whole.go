@@ -29,3 +29,14 @@ func Lowest(num, den int) api.Fraction {
 
 // Moment says whether a number is a moment.
 func Moment(n int) bool { return Within(n, 0, api.End-1) }
+
+// Members are the elements of a set, rising: element i is in the sets that have bit i.
+func Members(set int) []int {
+	var list []int
+	for i := 0; set>>i > 0; i++ {
+		if set>>i&1 == 1 {
+			list = append(list, i)
+		}
+	}
+	return list
+}

@@ -2,6 +2,7 @@ package whole_test
 
 import (
 	"math"
+	"slices"
 	"testing"
 
 	"reelfeeder/api"
@@ -41,6 +42,14 @@ func TestMoment(t *testing.T) {
 	for n, want := range map[int]bool{-1: false, 0: true, api.End - 1: true, api.End: false, math.MinInt: false, math.MaxInt: false} {
 		if got := whole.Moment(n); got != want {
 			t.Errorf("%d: got %v", n, got)
+		}
+	}
+}
+
+func TestMembers(t *testing.T) {
+	for set, want := range map[int][]int{0: nil, 1: {0}, 6: {1, 2}, 41: {0, 3, 5}, 1 << 62: {62}, 255: {0, 1, 2, 3, 4, 5, 6, 7}} {
+		if got := whole.Members(set); !slices.Equal(got, want) {
+			t.Errorf("%b: got %v", set, got)
 		}
 	}
 }
