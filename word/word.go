@@ -25,6 +25,19 @@ func Key(s string) bool {
 	return true
 }
 
+// Rising validates keys, each one greater than the one before.
+func Rising(words []string) api.Errno {
+	for i, w := range words {
+		switch {
+		case !Key(w):
+			return api.ErrName
+		case i > 0 && w <= words[i-1]:
+			return api.ErrOrder
+		}
+	}
+	return api.OK
+}
+
 func small(b byte) bool { return 'a' <= b && b <= 'z' }
 
 func digit(b byte) bool { return '0' <= b && b <= '9' }

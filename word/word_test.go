@@ -23,6 +23,18 @@ func TestKey(t *testing.T) {
 	}
 }
 
+func TestRising(t *testing.T) {
+	for words, want := range map[string]api.Errno{
+		"": api.OK, "a": api.OK, "a-1 a1 a_1 b": api.OK,
+		"A": api.ErrName, "a b C": api.ErrName, "a A": api.ErrName,
+		"a a": api.ErrOrder, "b a": api.ErrOrder, "a c b d": api.ErrOrder, "b a A": api.ErrOrder, "a1 a-1": api.ErrOrder,
+	} {
+		if e := word.Rising(strings.Fields(words)); e != want {
+			t.Errorf("%q: got %d", words, e)
+		}
+	}
+}
+
 // TestNumber holds Z10: how numbers are written.
 func TestNumber(t *testing.T) {
 	good := map[string]int{"0": 0, "7": 7, "10": 10, "-1": -1, "-10": -10, "999999999999999": 999_999_999_999_999, "-999999999999999": -999_999_999_999_999}
