@@ -1,10 +1,8 @@
 package inspect
 
 import (
-	"cmp"
-	"slices"
+	"maps"
 	"strconv"
-	"strings"
 
 	"reelfeeder/api"
 	"reelfeeder/whole"
@@ -36,21 +34,9 @@ func Rows(l []api.Look, long int) ([]api.Pair, api.Errno) {
 	if e := checkLeast(l, long); e != api.OK {
 		return nil, e
 	}
-	longest := longestRows(l)
-	var names []string
-	for name, many := range longest {
-		if many >= long {
-			names = append(names, name)
-		}
-	}
-	slices.SortFunc(names, func(a, b string) int {
-		return cmp.Or(cmp.Compare(longest[b], longest[a]), strings.Compare(a, b))
-	})
-	var rows []api.Pair
-	for _, name := range names {
-		rows = append(rows, api.Pair{Name: name, Value: strconv.Itoa(longest[name])})
-	}
-	return rows, api.OK
+	rows := longestRows(l)
+	maps.DeleteFunc(rows, func(_ string, many int) bool { return many < long })
+	return word.ByNumber(rows), api.OK
 }
 
 // longestRows is on how many successive boards each component is bad. The boards follow each other as the looks do.

@@ -3,10 +3,10 @@ package reel
 import (
 	"maps"
 	"slices"
-	"strconv"
 
 	"reelfeeder/api"
 	"reelfeeder/whole"
+	"reelfeeder/word"
 )
 
 // eachUse tells took about each event that takes components, and from where. It validates reels and events, then
@@ -68,11 +68,7 @@ func Used(r []api.Reel, f []api.Feed, w api.Window) ([]api.Pair, api.Errno) {
 			many[event.Feeder] += event.Many
 		}
 	})
-	var used []api.Pair
-	for _, feeder := range slices.Sorted(maps.Keys(many)) {
-		used = append(used, api.Pair{Name: feeder, Value: strconv.Itoa(many[feeder])})
-	}
-	return used, e
+	return word.ByName(many), e
 }
 
 // needWindow is the error of a window that is asked for.

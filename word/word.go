@@ -2,6 +2,8 @@
 package word
 
 import (
+	"cmp"
+	"maps"
 	"slices"
 	"strconv"
 	"strings"
@@ -105,4 +107,25 @@ func Text(lines []string) (string, api.Errno) {
 		return "", api.ErrLarge
 	}
 	return text, api.OK
+}
+
+// ByName are names with a number each, by name.
+func ByName(numbers map[string]int) []api.Pair {
+	return pairs(slices.Sorted(maps.Keys(numbers)), numbers)
+}
+
+// ByNumber are names with a number each, the greatest number first, of equal ones by name.
+func ByNumber(numbers map[string]int) []api.Pair {
+	names := slices.Sorted(maps.Keys(numbers))
+	slices.SortStableFunc(names, func(a, b string) int { return cmp.Compare(numbers[b], numbers[a]) })
+	return pairs(names, numbers)
+}
+
+// pairs are names with their numbers.
+func pairs(names []string, numbers map[string]int) []api.Pair {
+	var list []api.Pair
+	for _, name := range names {
+		list = append(list, api.Pair{Name: name, Value: strconv.Itoa(numbers[name])})
+	}
+	return list
 }

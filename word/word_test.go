@@ -120,3 +120,21 @@ func TestText(t *testing.T) {
 		t.Error("more than MaxText bytes are too many:", len(s), e)
 	}
 }
+
+// TestPairs holds how names with numbers are ordered, and that the numbers stay as they are.
+func TestPairs(t *testing.T) {
+	numbers := map[string]int{"b": 2, "a-1": 10, "a1": 2, "a": 0, "a_1": 2}
+	byName := []api.Pair{{Name: "a", Value: "0"}, {Name: "a-1", Value: "10"}, {Name: "a1", Value: "2"}, {Name: "a_1", Value: "2"}, {Name: "b", Value: "2"}}
+	byNumber := []api.Pair{{Name: "a-1", Value: "10"}, {Name: "a1", Value: "2"}, {Name: "a_1", Value: "2"}, {Name: "b", Value: "2"}, {Name: "a", Value: "0"}}
+	for range 10 {
+		if got := word.ByName(numbers); !slices.Equal(got, byName) {
+			t.Error("by name:", got)
+		}
+		if got := word.ByNumber(numbers); !slices.Equal(got, byNumber) {
+			t.Error("by number:", got)
+		}
+	}
+	if len(numbers) != 5 || len(word.ByName(nil)) != 0 || len(word.ByNumber(nil)) != 0 {
+		t.Error("changed, or something of nothing:", numbers)
+	}
+}
